@@ -1,0 +1,1 @@
+"""Propagation of qualitative relations between points, intervals, sets or positions."""
