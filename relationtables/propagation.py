@@ -1,4 +1,4 @@
-"""Tables, the steps that are possible in them, and the final table.
+"""Tables, the steps that are taken from the first one, and the final table.
 
 A table is a list with a set of relations for each pair, in the order of the pairs.
 """
@@ -73,10 +73,19 @@ def first_step(kind, objects, table):
 
 
 # This comes to an end, as each step makes one of the sets smaller.
-def final_table(kind, objects, statements):
+def steps_taken(kind, objects, statements):
     table = first_table(kind, objects, statements)
+    taken = []
     step = first_step(kind, objects, table)
     while step is not None:
         table[pair_place(step.lower, step.higher)] = step.relations
+        taken.append(step)
         step = first_step(kind, objects, table)
+    return taken
+
+
+def final_table(kind, objects, statements):
+    table = first_table(kind, objects, statements)
+    for step in steps_taken(kind, objects, statements):
+        table[pair_place(step.lower, step.higher)] = step.relations
     return table

@@ -5,8 +5,9 @@ is changed, so that it leaves all as it was.
 """
 
 from relationtables.kinds import kind_exists
-from relationtables.propagation import final_table
+from relationtables.propagation import final_table, pairs, steps_taken
 from relationtables.relations import all_relations
+from relationtables.scenarios import relations_in_scenarios, scenario_exists
 
 MOST_OBJECTS = 4
 MOST_STATEMENTS = 10
@@ -46,6 +47,37 @@ class Request:
         self.statements.pop(index)
         return [len(self.statements)]
 
+    def final(self):
+        return final_table(self.kind, self.objects, self.statements)
+
     def table(self):
-        final = final_table(self.kind, self.objects, self.statements)
+        final = self.final()
         return [len(final)] + final
+
+    def steps(self):
+        taken = steps_taken(self.kind, self.objects, self.statements)
+        numbers = [len(taken)]
+        for step in taken:
+            numbers.extend([step.lower, step.higher, step.third, step.relations])
+        return numbers
+
+    def empty(self):
+        return [1 if 0 in self.final() else 0]
+
+    def gap(self):
+        final = self.final()
+        if not scenario_exists(self.kind, self.objects, final):
+            return [-6]
+        possible = relations_in_scenarios(self.kind, self.objects, final)
+        gaps = 0
+        numbers = []
+        for pair, kept, had in zip(pairs(self.objects), final, possible):
+            if kept != had:
+                gaps += 1
+                numbers.extend([pair[0], pair[1], kept & ~had])
+        return [gaps] + numbers
+
+    def enough(self):
+        final = self.final()
+        consistent = scenario_exists(self.kind, self.objects, final)
+        return [1 if consistent != (0 in final) else 0]

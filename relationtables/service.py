@@ -8,9 +8,13 @@ from relationtables.request import Request
 BEGINS = 0
 TOLD = 1
 DROP = 2
+TABLE = 3
+STEPS = 4
+EMPTY = 5
+GAP = 6
 
-# By the number of the call (begins, told, drop, table): how many numbers stand behind it.
-ARGUMENT_COUNTS = (2, 3, 1, 0)
+# By the number of the call (begins, told, drop, table, steps, empty, gap, enough): how many numbers stand behind it.
+ARGUMENT_COUNTS = (2, 3, 1, 0, 0, 0, 0, 0)
 
 
 def answers(calls):
@@ -34,4 +38,12 @@ def answer(request, call, arguments):
         return request.told(arguments[0], arguments[1], arguments[2])
     if call == DROP:
         return request.drop(arguments[0])
-    return request.table()
+    if call == TABLE:
+        return request.table()
+    if call == STEPS:
+        return request.steps()
+    if call == EMPTY:
+        return request.empty()
+    if call == GAP:
+        return request.gap()
+    return request.enough()

@@ -2,7 +2,9 @@
 
 Nothing here uses the program's own relations, inverses or compositions.
 """
+import functools
 import itertools
+import random
 
 from relationtables.service import answers
 
@@ -27,6 +29,22 @@ def drop(index):
 
 def table():
     return [3]
+
+
+def steps():
+    return [4]
+
+
+def empty():
+    return [5]
+
+
+def gap():
+    return [6]
+
+
+def enough():
+    return [7]
 
 
 def ask(*calls):
@@ -97,27 +115,32 @@ def relation(kind, a, b):
     return meanings.index(True)
 
 
-def set_triples():
-    # Which relations three sets have depends only on which of the seven regions of their diagram are empty.
-    for chosen in range(1, 128):
-        regions = [region for region in range(1, 8) if chosen >> (region - 1) & 1]
-        triple = [frozenset(region for region in regions if region >> place & 1) for place in range(3)]
-        if all(triple):
-            yield tuple(triple)
+def set_arrangements(count):
+    # Which relations the sets have depends only on which regions of their diagram are empty.
+    regions = range(1, 2 ** count)
+    for filled in itertools.product((False, True), repeat=len(regions)):
+        chosen = [region for region, there in zip(regions, filled) if there]
+        found = tuple(frozenset(region for region in chosen if region >> place & 1) for place in range(count))
+        if all(found):
+            yield found
+
+
+def arrangements(kind, count):
+    """So many objects of the kind, in every arrangement that they can have."""
+    if kind == SETS:
+        return set_arrangements(count)
+    if kind == POINTS:
+        objects = range(count)
+    elif kind == INTERVALS:
+        # As many places as there are starts and ends are enough for every order of them.
+        objects = list(itertools.combinations(range(2 * count), 2))
+    else:
+        objects = list(itertools.product(range(count), repeat=2))
+    return itertools.product(objects, repeat=count)
 
 
 def triples(kind):
-    """Three objects of the kind in every arrangement that three objects can have."""
-    if kind == SETS:
-        return set_triples()
-    if kind == POINTS:
-        objects = range(3)
-    elif kind == INTERVALS:
-        # Three intervals have six ends, so six places are enough for every order of them.
-        objects = list(itertools.combinations(range(6), 2))
-    else:
-        objects = list(itertools.product(range(3), repeat=2))
-    return itertools.product(objects, repeat=3)
+    return arrangements(kind, 3)
 
 
 def real_inverses(kind):
@@ -189,6 +212,39 @@ def possible_steps(kind, objects, sets):
     return found
 
 
+@functools.cache
+def real_scenarios(kind, objects):
+    """Every tuple of relations, one for each pair, that some real objects have."""
+    known = functools.cache(functools.partial(relation, kind))
+    order = pairs(objects)
+    return sorted({
+        tuple([known(real[low], real[high]) for low, high in order]) for real in arrangements(kind, objects)
+    })
+
+
+def scenarios(kind, objects, statements):
+    """The scenarios of the statements, in their order: one relation for each pair."""
+    found = real_scenarios(kind, objects)
+    for place, allowed in enumerate(left(kind, objects, statements)):
+        found = [real for real in found if allowed >> real[place] & 1]
+    return found
+
+
+def real_gap(kind, objects, statements, final):
+    """What gap answers, if these are the sets of the final table."""
+    found = scenarios(kind, objects, statements)
+    if not found:
+        return [-6]
+    numbers = []
+    for place, (low, high) in enumerate(pairs(objects)):
+        missing = final[place]
+        for had in {real[place] for real in found}:
+            missing &= ~(1 << had)
+        if missing:
+            numbers += [low, high, missing]
+    return [len(numbers) // 3] + numbers
+
+
 def contained(small, large):
     return len(small) == len(large) and all(a & ~b == 0 for a, b in zip(small, large))
 
@@ -212,3 +268,30 @@ def draw_mask(kind, draw):
 def draw_statement(kind, objects, draw):
     a, b = draw.sample(range(objects), 2)
     return (a, b, draw_mask(kind, draw))
+
+
+def few_relations(kind, objects, draw):
+    """A statement about each pair, with one to three relations."""
+    count = RELATION_COUNTS[kind]
+    found = []
+    for a, b in pairs(objects):
+        found.append((a, b, sum(1 << bit for bit in draw.sample(range(count), draw.randint(1, 3)))))
+    return found
+
+
+def many_relations(kind, objects, draw):
+    """A statement about most pairs, with all relations but some."""
+    found = []
+    for a, b in pairs(objects):
+        if draw.random() < 0.9:
+            found.append((a, b, draw_mask(kind, draw) | draw_mask(kind, draw) | 1 << draw.randrange(3)))
+    return found
+
+
+def drawn_requests(seed, times):
+    """Kind, number of objects and statements, with tight and with loose sets."""
+    draw = random.Random(seed)
+    for kind in KINDS:
+        for objects in (2, 3, 4):
+            for _ in range(times):
+                yield kind, objects, [draw_statement(kind, objects, draw) for _ in range(draw.randint(0, 9))]

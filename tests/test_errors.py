@@ -1,9 +1,10 @@
-"""The errors of begins, told and drop, at their edges, and that an error changes nothing (point 6)."""
+"""The errors of begins, told, drop and gap, at their edges, and that an error changes nothing (point 6)."""
 import random
 import unittest
 
 from helper import (
-    FULL, HIGHEST_NUMBER, KINDS, POINTS, POSITIONS, ask, begins, draw_statement, drop, table, told,
+    FULL, HIGHEST_NUMBER, KINDS, POINTS, POSITIONS, ask, begins, draw_statement, drop, empty, enough, few_relations,
+    gap, many_relations, steps, table, told,
 )
 
 
@@ -106,6 +107,22 @@ class ErrorsOfDrop(unittest.TestCase):
         self.assertEqual(ask(*calls)[-4:], [[2], [1], [0], [-2]])
 
 
+class ErrorOfGap(unittest.TestCase):
+
+    def test_it_is_answered_alone(self):
+        for kind in KINDS:
+            for objects in (2, 3, 4):
+                self.assertEqual(last(begins(kind, objects), told(0, 1, 0), gap()), [-6])
+
+    def test_no_other_call_refuses_then(self):
+        found = ask(begins(POINTS, 3), told(0, 1, 0), gap(), table(), steps(), empty(), enough(), gap())
+        self.assertEqual(found[2:], [[-6], [3, 0, 0, 0], [2, 0, 2, 1, 0, 1, 2, 0, 0], [1], [1], [-6]])
+
+    def test_not_once_they_are_consistent_again(self):
+        found = ask(begins(POINTS, 2), told(0, 1, 1), told(1, 0, 1), gap(), drop(0), gap())
+        self.assertEqual(found[3:], [[-6], [1], [0]])
+
+
 class ErrorsChangeNothing(unittest.TestCase):
 
     def wrong_calls(self, kind, objects, count):
@@ -121,18 +138,42 @@ class ErrorsChangeNothing(unittest.TestCase):
             (drop(HIGHEST_NUMBER), [-2]),
         ]
 
-    def test_the_table_and_the_numbers_stay(self):
+    def check(self, start, wrong, refusal, rest):
+        without = ask(*start, *rest)
+        behind = ask(*start, wrong, *rest)
+        self.assertEqual(behind, without[:len(start)] + [refusal] + without[len(start):])
+
+    def test_the_answers_and_the_numbers_stay(self):
         draw = random.Random(3)
+        rest = [table(), steps(), empty(), gap(), enough(), told(1, 0, 1), drop(1), table(), gap()]
         for kind in KINDS:
             for objects in (2, 3, 4):
-                statements = [told(*draw_statement(kind, objects, draw)) for _ in range(4)]
-                start = [begins(kind, objects)] + statements
-                for wrong, refusal in self.wrong_calls(kind, objects, 4):
-                    with self.subTest(kind=kind, objects=objects, wrong=wrong):
-                        rest = [table(), told(1, 0, 1), table(), drop(1), table()]
-                        without = ask(*start, *rest)
-                        behind = ask(*start, wrong, *rest)
-                        self.assertEqual(behind, without[:5] + [refusal] + without[5:])
+                for draw_statements in (few_relations, many_relations):
+                    statements = draw_statements(kind, objects, draw)
+                    start = [begins(kind, objects)] + [told(*statement) for statement in statements]
+                    for wrong, refusal in self.wrong_calls(kind, objects, len(statements)):
+                        with self.subTest(kind=kind, objects=objects, statements=statements, wrong=wrong):
+                            self.check(start, wrong, refusal, rest)
+
+    def test_the_answers_stay_after_an_eleventh_statement(self):
+        draw = random.Random(29)
+        rest = [table(), steps(), empty(), gap(), enough(), drop(9), table(), gap()]
+        for kind in KINDS:
+            for objects in (2, 3, 4):
+                statements = [draw_statement(kind, objects, draw) for _ in range(10)]
+                for a, b, mask in statements[:2] * 2:
+                    start = [begins(kind, objects)] + [told(x, y, part | 3) for x, y, part in statements]
+                    with self.subTest(kind=kind, objects=objects, statements=statements):
+                        self.check(start, told(a, b, mask & 1), [-7], rest)
+
+    def test_the_answers_stay_after_gap_refused(self):
+        draw = random.Random(30)
+        rest = [table(), steps(), empty(), gap(), enough(), drop(0), table()]
+        for kind in KINDS:
+            for objects in (2, 3, 4):
+                statements = few_relations(kind, objects, draw) + [(objects - 1, 0, 0)]
+                start = [begins(kind, objects)] + [told(*statement) for statement in statements]
+                self.check(start, gap(), [-6], rest)
 
     def test_a_refused_eleventh_statement_leaves_ten(self):
         start = [begins(POINTS, 2)] + [told(0, 1, 3)] * 10
@@ -140,8 +181,9 @@ class ErrorsChangeNothing(unittest.TestCase):
         self.assertEqual(found[-5:], [[-7], [1, 3], [9], [9], [1, 2]])
 
     def test_errors_before_any_begins(self):
-        found = ask(table(), begins(4, 4), told(0, 1, 1), drop(0), begins(0, 0), begins(3, 5), table())
-        self.assertEqual(found, [[0], [-1], [-1], [-2], [-1], [-1], [0]])
+        rest = [table(), steps(), empty(), gap(), enough()]
+        found = ask(begins(4, 4), told(0, 1, 1), drop(0), begins(0, 0), begins(3, 5), *rest)
+        self.assertEqual(found, [[-1], [-1], [-2], [-1], [-1], [0], [0], [0], [0], [1]])
 
     def test_the_kind_stays_after_a_refused_begins(self):
         found = ask(begins(1, 2), begins(0, 0), told(0, 1, 8191), told(0, 1, 8192), table())

@@ -4,8 +4,8 @@ import random
 import unittest
 
 from helper import (
-    FULL, KINDS, POINTS, RELATION_COUNTS, contained, draw_mask, draw_object, draw_statement, final_sets, left, pairs,
-    possible_steps, relation,
+    FULL, KINDS, POINTS, RELATION_COUNTS, contained, draw_mask, draw_object, draw_statement, drawn_requests,
+    final_sets, left, pairs, possible_steps, relation,
 )
 
 
@@ -13,15 +13,6 @@ def true_statement(kind, objects, draw):
     """A drawn statement that holds for these real objects."""
     a, b = draw.sample(range(len(objects)), 2)
     return (a, b, draw_mask(kind, draw) | 1 << relation(kind, objects[a], objects[b]))
-
-
-def drawn_requests(seed, times):
-    """Kind, number of objects and statements, with tight and with loose sets."""
-    draw = random.Random(seed)
-    for kind in KINDS:
-        for objects in (2, 3, 4):
-            for _ in range(times):
-                yield kind, objects, [draw_statement(kind, objects, draw) for _ in range(draw.randint(0, 9))]
 
 
 def drawn_worlds(seed, times):
